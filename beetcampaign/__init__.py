@@ -1,0 +1,1 @@
+"""A beet sugar campaign, told in whole numbers: see beetcampaign.works."""

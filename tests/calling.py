@@ -1,0 +1,88 @@
+"""Calls by name for the tests, and what is checked of every refusal."""
+
+import unittest
+
+from beetcampaign.works import answers
+
+NAMES = (
+    "start", "terms", "grower", "field", "field_at", "held", "ripest", "best", "plan", "adopt", "planned", "room",
+    "dig", "grower_at", "price", "pay", "bonus", "day", "days", "cover", "uncover", "heap", "heaps", "lose",
+    "when_cover", "order", "haul", "frost", "set", "cells", "slice", "dirt", "tower", "cell", "in_tower", "steady",
+)
+
+MOST = 4294967295
+
+
+def encoded(calls):
+    """The list that is handed in for calls such as ("field", 0, 300, [1500, 1600])."""
+    numbers = []
+    for call in calls:
+        numbers.append(NAMES.index(call[0]))
+        for given in call[1:]:
+            if isinstance(given, list):
+                numbers.append(len(given))
+                numbers.extend(given)
+            else:
+                numbers.append(given)
+    return numbers
+
+
+def decoded(numbers):
+    """The answers, a list each."""
+    told = []
+    place = 0
+    while place < len(numbers):
+        count = numbers[place]
+        told.append(numbers[place + 1:place + 1 + count])
+        place += 1 + count
+    return told
+
+
+def ask(calls):
+    """What is answered to each of the calls."""
+    calls = list(calls)
+    if len(calls) > 150:
+        raise ValueError("a list has at most 150 calls")
+    told = decoded(answers(encoded(calls)))
+    if len(told) != len(calls):
+        raise ValueError("there is not one answer a call")
+    return told
+
+
+def last(calls):
+    """What is answered to the last of the calls."""
+    return ask(calls)[-1]
+
+
+def probes():
+    """Calls whose answers show all that an object keeps; those that only tell stand first."""
+    calls = [("price", 0), ("price", 1600), ("price", 2500), ("best",), ("planned",), ("heaps",), ("frost",),
+             ("in_tower",), ("steady",), ("order", [60, 40])]
+    calls += [("grower_at", g) for g in range(6)]
+    calls += [("field_at", f) for f in range(6)] + [("held", f) for f in range(2)]
+    calls += [("room", w) for w in range(6)]
+    calls += [("heap", k) for k in range(6)]
+    calls += [("cell", i) for i in range(12)]
+    calls += [("days", []), ("slice", 7), ("dirt", 1), ("set", 100, 50), ("tower", 3), ("haul", 0, 1)]
+    calls += [("grower", 5), ("field", 0, 2, [9]), ("pay", 0), ("bonus", 100000000), ("day", 60), ("cells", 2)]
+    return calls
+
+
+class CallTest(unittest.TestCase):
+    """Checks of answers, and of refusals with what they leave as it was."""
+
+    def check(self, calls, expected):
+        self.assertEqual(last(calls), expected)
+
+    def check_all(self, pairs):
+        """Pairs of a call and its answer, one behind another on one object."""
+        told = ask([pair[0] for pair in pairs])
+        for place, pair in enumerate(pairs):
+            self.assertEqual(told[place], pair[1], (place, pair[0]))
+
+    def check_refused(self, before, call, number):
+        """The call is refused with the number alone, and all is as if it had not been."""
+        before = list(before)
+        told = ask(before + [call] + probes())
+        self.assertEqual(told.pop(len(before)), [number], call)
+        self.assertEqual(told, ask(before + probes()), call)
