@@ -1,8 +1,12 @@
 """What a campaign keeps from one call to the next."""
 
 from beetcampaign.fields import tons_dug
+from beetcampaign.filters import Filters
 from beetcampaign.growers import price_of
 from beetcampaign.juice import Juice
+from beetcampaign.silo import Silo
+from beetcampaign.strikes import Pans
+from beetcampaign.totals import Totals
 from beetcampaign.tower import Tower
 
 DAYS_A_WEEK = 7
@@ -23,6 +27,16 @@ class Campaign:
         self.hopper = 0
         self.tower = Tower()
         self.raw = Juice()
+        self.lime = 0
+        self.filters = Filters(0, 1, 0)
+        self.thin = Juice()
+        self.strikes = []
+        self.pans = Pans(0, 0)
+        self.green = Juice()
+        self.molasses = Juice()
+        self.silo = Silo()
+        self.sales = []
+        self.totals = Totals()
 
     def this_week(self):
         return self.day // DAYS_A_WEEK
@@ -42,15 +56,33 @@ class Campaign:
         """The numbers of the clamps that have beets."""
         return [k for k, clamp in enumerate(self.clamps) if clamp.beets > 0]
 
+    def wanting_sales(self):
+        """The numbers of the sales that are still to be filled."""
+        return [o for o, sale in enumerate(self.sales) if sale.is_wanting()]
+
     def pass_day(self, warmth):
         """Lets a day go by over all clamps, and answers what was lost."""
+        lost = sum([clamp.pass_day(warmth) for clamp in self.clamps])
         self.day += 1
-        return sum([clamp.pass_day(warmth) for clamp in self.clamps])
+        self.totals.count_loss(lost)
+        return lost
 
     def run_tick(self):
         """A tick of the tower, fed from the hopper; answers what was drawn and what left."""
         fed = min(self.tower.portion, self.hopper)
         self.hopper -= fed
         out = self.tower.tick(fed)
-        self.raw.pour(out[0], out[0] * self.tower.dirt // 1000)
+        drawn = Juice(out[0], out[0] * self.tower.dirt // 1000)
+        self.raw.pour(drawn)
+        self.totals.count_tower(fed, drawn, out[1])
         return out
+
+    def filter_tick(self):
+        """A tick of the filters; answers how much raw juice went in, and the thin juice that came."""
+        part = self.raw.part(self.filters.flow())
+        limed = part.limed(self.lime)
+        self.raw.draw_off(part)
+        self.thin.pour(limed)
+        self.totals.count_lime(part, limed)
+        self.filters.tick()
+        return (part.weight(), limed)

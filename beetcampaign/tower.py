@@ -1,6 +1,7 @@
 """The tower: a row of cells through which beets go one way and juice the other."""
 
 TICKS_TO_BE_STEADY = 300
+MOST_CELLS = 12
 
 
 class Tower:
@@ -36,10 +37,10 @@ class Tower:
         self.juice = [amount + come for amount, come in zip(juice, moved)]
         return (drawn, pulp)
 
-    def emptied(self):
-        """Another one with as many cells, set alike, without sugar."""
+    def emptied(self, count):
+        """Another one with so many cells, set alike, without sugar."""
         other = Tower()
-        other.place_cells(len(self.beets))
+        other.place_cells(count)
         other.draft = self.draft
         other.mixed = self.mixed
         other.portion = self.portion
@@ -54,13 +55,22 @@ def mixing(beets, juice, draft, mixed):
     return (beets - alike) * mixed // 100
 
 
-def steady_state(tower):
-    """Behind how many ticks the row is steady, and what's drawn and left then; or None."""
-    trial = tower.emptied()
+def steady_state(tower, count):
+    """Behind how many ticks so many cells are steady, and what's drawn and left then; or None."""
+    trial = tower.emptied(count)
     for ticks in range(TICKS_TO_BE_STEADY):
         beets = trial.beets
         juice = trial.juice
         out = trial.tick(trial.portion)
         if trial.beets == beets and trial.juice == juice:
             return (ticks, out[0], out[1])
+    return None
+
+
+def fewest_cells(tower, wanted):
+    """The fewest cells that come to draw so many of ten thousand that are fed; or None."""
+    for count in range(1, MOST_CELLS + 1):
+        steady = steady_state(tower, count)
+        if steady is not None and steady[1] * 10000 >= wanted * tower.portion:
+            return count
     return None

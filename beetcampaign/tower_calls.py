@@ -1,15 +1,15 @@
 """The calls that speak of the tower."""
 
 from beetcampaign.refusals import ABSENT, IMPOSSIBLE, NOTHING, OCCUPIED, WRONG
-from beetcampaign.tower import steady_state
+from beetcampaign.tower import MOST_CELLS, fewest_cells, steady_state
 
 LEAST_DRAFT = 50
 MOST_DRAFT = 200
 MOST_MIXED = 100
-MOST_CELLS = 12
 MOST_SLICE = 10000
 MOST_DIRT = 300
 MOST_TICKS = 60
+MOST_DRAWN = 10000
 
 
 def set_tower(works, draft, mixed):
@@ -75,10 +75,28 @@ def tell_in_tower(works):
 def tell_steady(works):
     if not works.tower.can_run():
         return [NOTHING]
-    steady = steady_state(works.tower)
+    steady = steady_state(works.tower, len(works.tower.beets))
     if steady is None:
         return [IMPOSSIBLE]
     return list(steady)
+
+
+def tell_fewest(works, y):
+    if y > MOST_DRAWN:
+        return [WRONG]
+    if works.tower.portion == 0:
+        return [NOTHING]
+    fewest = fewest_cells(works.tower, y)
+    if fewest is None:
+        return [IMPOSSIBLE]
+    return [fewest]
+
+
+def tell_yield(works):
+    totals = works.totals
+    if totals.fed == 0:
+        return [NOTHING]
+    return [totals.drawn * 10000 // totals.fed, totals.fed, totals.drawn, totals.pulp]
 
 
 # Behind each call's number: what answers it, how many whole numbers it has, whether a row follows.
@@ -91,4 +109,6 @@ TOWER_CALLS = {
     33: (tell_cell, 1, False),
     34: (tell_in_tower, 0, False),
     35: (tell_steady, 0, False),
+    36: (tell_fewest, 1, False),
+    37: (tell_yield, 0, False),
 }

@@ -4,7 +4,11 @@ from beetcampaign.campaign import Campaign
 from beetcampaign.clamp_calls import CLAMP_CALLS
 from beetcampaign.field_calls import FIELD_CALLS
 from beetcampaign.grower_calls import GROWER_CALLS
+from beetcampaign.juice_calls import JUICE_CALLS
+from beetcampaign.pan_calls import PAN_CALLS
 from beetcampaign.refusals import WRONG
+from beetcampaign.silo_calls import SILO_CALLS
+from beetcampaign.total_calls import TOTAL_CALLS
 from beetcampaign.tower_calls import TOWER_CALLS
 
 START = 0
@@ -46,7 +50,15 @@ def find_call(number):
         return FIELD_CALLS[number]
     if number in CLAMP_CALLS:
         return CLAMP_CALLS[number]
-    return TOWER_CALLS[number]
+    if number in TOWER_CALLS:
+        return TOWER_CALLS[number]
+    if number in JUICE_CALLS:
+        return JUICE_CALLS[number]
+    if number in PAN_CALLS:
+        return PAN_CALLS[number]
+    if number in SILO_CALLS:
+        return SILO_CALLS[number]
+    return TOTAL_CALLS[number]
 
 
 def answer_with(call, works, given):

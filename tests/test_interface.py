@@ -1,6 +1,6 @@
 import unittest
 
-from calling import CallTest, ask, encoded
+from calling import MOST, NAMES, CallTest, ask, encoded, last
 from beetcampaign.works import answers
 
 CAMPAIGN = [
@@ -10,13 +10,29 @@ CAMPAIGN = [
     ("bonus", 1000), ("day", 55), ("days", [45, 60]), ("cover", 0), ("uncover", 0), ("heap", 0), ("heaps",),
     ("lose", 0, 60), ("when_cover", 0, [50, 40, 70]), ("order", [60, 60]), ("haul", 0, 100000), ("frost",),
     ("set", 110, 60), ("cells", 3), ("slice", 500), ("dirt", 150), ("tower", 10), ("cell", 1), ("in_tower",),
-    ("steady",), ("start", []), ("start", [5]), ("best",),
+    ("steady",), ("fewest", 4000), ("yield",), ("lime", 60), ("raw",), ("would_lime", 200), ("best_lime",),
+    ("filters", 2, 5, 2), ("filter", 20), ("filters_at",), ("best_cycle",), ("thin",), ("silo", 5000),
+    ("strike", 40, 30, 400), ("strike", 20, 30, 90000), ("strike", 9, 9, 9), ("unstrike", 2), ("strikes",), ("ends",),
+    ("soonest",), ("sort",), ("boil", 30), ("times",), ("second", 15, 100), ("green",), ("molasses",), ("stored",),
+    ("sale", 100, 900, 3), ("sale", 100, 950, 1), ("sale", 7, 7, 7), ("cancel", 2), ("sales",), ("sale_at", 1),
+    ("send", 0, 30), ("late",), ("owed",), ("income",), ("today",), ("sums",), ("others",), ("state",),
 ]
+AGAIN = [("start", []), ("start", [5]), ("best",)]
 
-# How many numbers each call answers where it isn't refused and there is one of each thing.
+# How many numbers each call answers where it isn't refused, with so many things as there are then.
 COUNTS = {"field_at": 4, "ripest": 2, "planned": 3, "room": 3, "dig": 4, "grower_at": 5, "day": 2, "days": 2,
           "heap": 5, "lose": 3, "when_cover": 2, "haul": 2, "tower": 3, "cell": 2, "in_tower": 3, "steady": 3,
-          "held": 3, "bonus": 2, "heaps": 2, "frost": 2, "order": 3}
+          "held": 1 + 2, "best": 2 + 2, "bonus": 1 + 1, "heaps": 1 + 1, "frost": 1 + 1, "order": 2 + 1, "yield": 4,
+          "raw": 4, "would_lime": 4, "best_lime": 2, "filter": 3, "filters_at": 2 + 2 * 2, "best_cycle": 2, "thin": 4,
+          "strikes": 1 + 2 * 3, "ends": 1 + 2, "soonest": 2 + 2, "boil": 4, "times": 2, "second": 3, "green": 4,
+          "molasses": 4, "stored": 3, "sales": 1 + 2, "sale_at": 5, "send": 2, "late": 1 + 1, "income": 3, "today": 2,
+          "sums": 13, "others": 6, "state": 8}
+# The places of the counts that are told, where it isn't the length of all that's answered.
+COUNTED = {"held": (0, 1), "bonus": (0, 1), "heaps": (0, 1), "frost": (0, 1), "strikes": (0, 3), "ends": (0, 1),
+           "sales": (0, 1), "late": (0, 1), "best": (1, 1), "order": (1, 1), "soonest": (1, 1), "filters_at": (1, 2)}
+CHANGES = ("start", "terms", "grower", "field", "plan", "adopt", "dig", "pay", "bonus", "day", "days", "cover",
+           "uncover", "haul", "set", "cells", "slice", "dirt", "tower", "lime", "filters", "filter", "strike",
+           "unstrike", "sort", "boil", "second", "silo", "sale", "cancel", "send")
 
 
 class FormTest(CallTest):
@@ -42,14 +58,31 @@ class FormTest(CallTest):
         self.assertEqual(ask([("start", [5]), ("grower", 1), ("start", [1] * 7), ("grower", 1)]),
                          [[0], [0], [-22], [1]])
 
+    def test_every_call_is_there(self):
+        self.assertEqual(len(NAMES), 72)
+        self.assertEqual(sorted({call[0] for call in CAMPAIGN}), sorted(NAMES))
+
     def test_every_call_answers_as_many_as_told(self):
         for call, told in zip(CAMPAIGN, ask(CAMPAIGN)):
-            if told[0] < 0:
-                self.assertEqual(call, ("start", []))
-                self.assertEqual(told, [-22])
-            elif call != ("best",):
-                self.assertEqual(len(told), COUNTS.get(call[0], 1), call)
-        self.assertEqual([len(told) for call, told in zip(CAMPAIGN, ask(CAMPAIGN)) if call == ("best",)], [4, 2])
+            self.assertGreaterEqual(told[0], 0, call)
+            self.assertEqual(len(told), COUNTS.get(call[0], 1), call)
+            if call[0] in COUNTED:
+                place, each = COUNTED[call[0]]
+                self.assertEqual(len(told), place + 1 + told[place] * each, call)
+
+    def test_whatever_numbers_are_handed_over(self):
+        start = [("start", [5, 6])]
+        numbers = {name: 0 for name in NAMES}
+        for call in CAMPAIGN:
+            numbers[call[0]] = sum(1 for given in call[1:] if not isinstance(given, list))
+        rows = [[], [0], [MOST], [MOST] * 34]
+        for name in NAMES[1:]:
+            for row in rows if name in ("field", "days", "when_cover", "order") else [None]:
+                call = (name,) + (MOST,) * numbers[name] + (() if row is None else (row,))
+                told = ask(start + [call, ("today",)])
+                self.assertEqual(len(told), 3)
+                if numbers[name] or row and row[0] == MOST:
+                    self.assertIn(told[1], ([-2], [-22]), call)
 
     def test_one_hundred_and_fifty_calls(self):
         calls = [("start", [30000] * 6), ("grower", 1)] + [("field", 0, 5000, [2000 + w for w in range(6)])] * 6
@@ -59,12 +92,23 @@ class FormTest(CallTest):
         self.assertEqual(told[8:], [told[-1]] * 142)
 
     def test_calls_that_tell_change_nothing(self):
-        before = CAMPAIGN[:37]
-        tells = [("field_at", 0), ("held", 1), ("ripest", 0), ("best",), ("planned",), ("room", 1), ("grower_at", 0),
-                 ("price", 1650), ("heap", 0), ("heaps",), ("lose", 0, 60), ("when_cover", 0, [50, 40, 70]),
-                 ("order", [60, 60]), ("frost",), ("cell", 1), ("in_tower",), ("steady",), ("days", [])]
-        told = ask(before + tells + list(reversed(tells)))[len(before):]
-        self.assertEqual(told, list(reversed(told)))
+        tells = [call for call in CAMPAIGN if call[0] not in CHANGES] + [("days", [])]
+        for some in (tells[::2], tells[1::2]):
+            told = ask(CAMPAIGN + some + list(reversed(some)))[len(CAMPAIGN):]
+            self.assertEqual(told, list(reversed(told)))
+        told = ask(CAMPAIGN + tells)[len(CAMPAIGN):]
+        self.assertEqual(told, [last(CAMPAIGN + [call]) for call in tells])
+
+    def test_a_start_in_the_midst(self):
+        told = ask(CAMPAIGN)
+        for cut in range(1, len(CAMPAIGN), 3):
+            begun = CAMPAIGN[:cut]
+            self.assertEqual(ask(begun + CAMPAIGN[:150 - cut])[cut:], told[:150 - cut])
+            self.assertEqual(ask(begun + AGAIN)[cut:], [[-22], [0], [0, 0]])
+        # A start that's refused leaves all as it was.
+        for cut in range(1, len(CAMPAIGN), 5):
+            calls = CAMPAIGN[:cut] + [("start", [30001]), ("start", [])] + CAMPAIGN[cut:]
+            self.assertEqual(ask(calls), told[:cut] + [[-22], [-22]] + told[cut:])
 
 
 class NothingIsKeptTest(unittest.TestCase):

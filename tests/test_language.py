@@ -123,6 +123,18 @@ class WordsTest(unittest.TestCase):
             if node.id in PYTHON:
                 self.assertIn(node.id, OWN_NAMES, where)
 
+    def test_no_local_is_called_like_an_import_or_a_class_or_a_function(self):
+        for path in FILES:
+            tree = ast.parse(path.read_text())
+            top = {alias.name for node in tree.body if isinstance(node, ast.ImportFrom) for alias in node.names}
+            top |= {node.name for node in tree.body if isinstance(node, (ast.FunctionDef, ast.ClassDef))}
+            for function in [node for node in ast.walk(tree) if isinstance(node, ast.FunctionDef)]:
+                for node in ast.walk(function):
+                    if isinstance(node, ast.arg):
+                        self.assertNotIn(node.arg, top, path.name)
+                    if isinstance(node, ast.Name) and isinstance(node.ctx, ast.Store):
+                        self.assertNotIn(node.id, top, path.name)
+
     def test_methods_and_values(self):
         methods = {node.name for cls, where in nodes(ast.ClassDef) for node in cls.body
                    if isinstance(node, ast.FunctionDef)}

@@ -300,5 +300,84 @@ class SteadyByRowsTest(CallTest):
         self.assertEqual(told[-1][:2], told[-3][1:])
 
 
+def fewest_by_rows(wanted, portion, draft, mixed):
+    """What fewest is to answer, each number of cells tried row by row."""
+    for count in range(1, 13):
+        steady = steady_by_rows(count, portion, draft, mixed)
+        if steady[0] >= 0 and steady[1] * 10000 // portion >= wanted:
+            return [count]
+    return [-33]
+
+
+class FewestTest(CallTest):
+    def test_just_as_many_as_are_wanted(self):
+        # Of 100 that are fed one cell draws 25, two 40, three 50.
+        before = START + [("slice", 100)]
+        for wanted, count in ((0, 1), (2500, 1), (2501, 2), (4000, 2), (4001, 3), (5000, 3), (5001, 4), (8000, 12)):
+            self.check(before + [("fewest", wanted)], [count])
+        self.check_refused(before, ("fewest", 8001), -33)
+        self.check_refused(before, ("fewest", 10000), -33)
+
+    def test_rounding_does_not_make_it_enough(self):
+        # Of 3 one cell draws 2, which is a bit more than 6,666 of ten thousand.
+        before = START + [("set", 200, 100), ("slice", 3)]
+        for wanted, count in ((6666, 1), (6667, 2), (10000, 2)):
+            self.check(before + [("fewest", wanted)], [count])
+
+    def test_many_settings(self):
+        for portion in (1, 100, 9999):
+            for draft, mixed in ((50, 100), (100, 50), (113, 67), (200, 1), (200, 100), (100, 0)):
+                for wanted in (0, 1, 3000, 6500, 9900, 10000):
+                    expected = fewest_by_rows(wanted, portion, draft, mixed)
+                    self.check(START + [("set", draft, mixed), ("slice", portion), ("fewest", wanted)], expected)
+
+    def test_cells_that_do_not_come_to_be_steady(self):
+        # Twelve cells, set so, aren't steady behind fewer than 300 ticks; more than eleven draw is wanted.
+        before = START + [("set", 102, 100), ("slice", 9036)]
+        drawn = last(before + [("cells", 11), ("steady",)])[1]
+        self.check(before + [("fewest", drawn * 10000 // 9036)], [11])
+        self.check_refused(before, ("fewest", drawn * 10000 // 9036 + 1), -33)
+
+    def test_cells_and_sugar_that_are_there_do_not_matter(self):
+        before = hopper_of(500) + [("cells", 5), ("slice", 100), ("tower", 3)]
+        self.check(before + [("fewest", 4001)], [3])
+        tells = [("cell", i) for i in range(5)] + [("in_tower",), ("yield",)]
+        self.assertEqual(ask(before + [("fewest", 4001)] + tells)[-7:], ask(before + tells)[-7:])
+
+    def test_refused(self):
+        for wanted in (10001, MOST):
+            self.check_refused(START + [("slice", 100)], ("fewest", wanted), -22)
+            self.check_refused(START, ("fewest", wanted), -22)
+        self.check_refused(START, ("fewest", 0), -6)
+        self.check_refused(START + [("cells", 4)], ("fewest", 10000), -6)
+
+
+class YieldTest(CallTest):
+    def test_nothing_was_fed(self):
+        for before in (START, hopper_of(100), START + [("cells", 2), ("slice", 5), ("tower", 60)],
+                       hopper_of(100) + [("cells", 2), ("slice", 5)]):
+            self.check_refused(before, ("yield",), -6)
+
+    def test_one_cell(self):
+        before = hopper_of(1000) + [("cells", 1), ("slice", 100)]
+        self.check(before + [("tower", 1), ("yield",)], [0, 100, 0, 0])
+        self.check(before + [("tower", 2), ("yield",)], [1250, 200, 25, 75])
+        self.check(before + [("tower", 3), ("yield",)], [1666, 300, 50, 150])
+        self.check(before + [("tower", 60), ("yield",)], [2500, 1000, 250, 750])
+
+    def test_all_is_drawn(self):
+        calls = hopper_of(9) + [("set", 200, 100), ("cells", 12), ("slice", 3), ("tower", 60), ("yield",)]
+        self.check(calls, [10000, 9, 9, 0])
+
+    def test_over_several_times(self):
+        calls = hopper_of(1000) + [("cells", 1), ("slice", 100), ("tower", 4), ("slice", 50), ("tower", 2)]
+        # Of 50 the half is alike, and of the 25 that differ 12 go into the juice.
+        self.check(calls + [("yield",)], [(25 * 4 + 12) * 10000 // 500, 500, 25 * 4 + 12, 75 * 4 + 38])
+
+    def test_cells_told_again_leave_it(self):
+        before = hopper_of(250) + [("cells", 1), ("slice", 100), ("tower", 60)]
+        self.assertEqual(ask(before + [("yield",), ("cells", 3), ("yield",)])[-3::2], [[2480, 250, 62, 188]] * 2)
+
+
 if __name__ == "__main__":
     unittest.main()
